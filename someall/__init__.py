@@ -1,0 +1,1 @@
+"""All and some, over yes and no: quantified clauses."""
