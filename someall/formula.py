@@ -14,8 +14,13 @@ class Formula:
         # In order: the variables, and for each the kind of block in which it stands.
         self.variables = []
         self.kinds = []
+        # How many variables the first block has: the kinds alone don't tell, as two of one kind may follow.
+        self.first_block = 0
         # Each clause is a dict: for a variable, the value with which its literal holds.
         self.clauses = []
+
+    def kind_of(self, variable):
+        return self.kinds[self.variables.index(variable)]
 
 
 def read_formula(text):
@@ -25,6 +30,8 @@ def read_formula(text):
     most = reader.take_number(1, MOST_VARIABLES)
     how_many = reader.take_number(0, MOST_CLAUSES)
     formula = Formula()
+    take_block(reader, most, formula)
+    formula.first_block = len(formula.variables)
     while len(formula.variables) < most:
         take_block(reader, most, formula)
     while len(formula.clauses) < how_many:

@@ -20,8 +20,11 @@ class Reader:
         # As words are numbered from 1 on, this is also the number of the word that was taken last.
         self.taken = 0
 
+    def is_at_end(self):
+        return self.taken == len(self.words)
+
     def coming(self):
-        if self.taken == len(self.words):
+        if self.is_at_end():
             # No word is empty, so a text that breaks off is wrong one word behind its last.
             return []
         return self.words[self.taken]
@@ -49,7 +52,7 @@ class Reader:
         return literal
 
     def take_end(self):
-        if self.taken < len(self.words):
+        if not self.is_at_end():
             raise WrongWord(self.taken + 1)
 
 

@@ -20,6 +20,9 @@ OWN_METHODS = set("""append clear copy count endswith extend find get index inse
 UNUSED_WORDS = re.compile(r"\b(type|typing|typing_extensions|enum|Enum|IntEnum|StrEnum|Flag|IntFlag|Generic|Protocol|"
                           r"ABC|ABCMeta|namedtuple|NamedTuple|TypedDict|TYPE_CHECKING|abstractmethod)\b|"
                           r"dataclass|overload|contextmanager")
+UNUSED_NAMES = set("""register mro elements open input version_info with_traceback add_note attrgetter breakpoint builtins
+    compile copyright credits delattr dir eval exec exit gc getattr globals hasattr help id importlib license locals
+    methodcaller os quit setattr super vars sys""".split())
 STATEMENTS = (ast.Assign, ast.AugAssign, ast.If, ast.While, ast.For, ast.Return, ast.Break, ast.Continue, ast.Pass,
               ast.Raise, ast.Try, ast.Expr, ast.FunctionDef, ast.ClassDef, ast.ImportFrom)
 EXPRESSIONS = (ast.Constant, ast.Name, ast.List, ast.Tuple, ast.Dict, ast.BinOp, ast.UnaryOp, ast.BoolOp, ast.Compare,
@@ -71,6 +74,43 @@ class Language(unittest.TestCase):
             self.assertTrue((ROOT / (node.module.replace(".", "/") + ".py")).is_file(), place)
             self.assertNotIn("*", [name.name for name in node.names], place)
 
+    def test_no_two_files_draw_from_one_another(self):
+        drawn = {f"someall.{path.stem}": {node.module for node in ast.parse(path.read_text("utf-8")).body
+                                          if isinstance(node, ast.ImportFrom)} for path in FILES}
+        while drawn:
+            free = [name for name in drawn if not drawn[name] & set(drawn)]
+            self.assertTrue(free, drawn)
+            drawn = {name: drawn[name] for name in drawn if name not in free}
+
+    def test_the_top_of_a_file(self):
+        for path in FILES:
+            bound = []
+            for node in ast.parse(path.read_text("utf-8")).body:
+                place = f"{path.name}:{node.lineno}"
+                if isinstance(node, ast.Assign):
+                    # Fails where it isn't a plain value.
+                    ast.literal_eval(node.value)
+                    bound.append(node.targets[0].id)
+                elif isinstance(node, (ast.FunctionDef, ast.ClassDef)):
+                    bound.append(node.name)
+                elif isinstance(node, ast.ImportFrom):
+                    bound.extend(name.asname or name.name for name in node.names)
+                else:
+                    self.assertIsInstance(node, ast.Expr, place)
+                    self.assertIsInstance(node.value.value, str, place)
+            self.assertEqual(len(bound), len(set(bound)), path.name)
+
+    def test_no_local_is_called_like_an_import_or_a_class(self):
+        for path in FILES:
+            tree = ast.parse(path.read_text("utf-8"))
+            taken = {name.name for node in tree.body if isinstance(node, ast.ImportFrom) for name in node.names}
+            taken |= {node.name for node in tree.body if isinstance(node, ast.ClassDef)}
+            for node in ast.walk(tree):
+                if isinstance(node, ast.arg):
+                    self.assertNotIn(node.arg, taken, path.name)
+                if isinstance(node, ast.Name) and isinstance(node.ctx, ast.Store):
+                    self.assertNotIn(node.id, taken, path.name)
+
     def test_statements_and_expressions(self):
         for place, node in nodes_of((ast.stmt, ast.expr)):
             self.assertIsInstance(node, STATEMENTS + EXPRESSIONS, place)
@@ -99,6 +139,7 @@ class Language(unittest.TestCase):
                 self.assertRegex(name, r"^[A-Za-z][A-Za-z0-9_]*$", place)
         for place, node in nodes_of(ast.Name):
             self.assertTrue(node.id in OWN_NAMES or not hasattr(builtins, node.id), (place, node.id))
+            self.assertNotIn(node.id, UNUSED_NAMES, place)
 
     def test_methods(self):
         own = {part.name for place, node in nodes_of(ast.ClassDef) for part in node.body}

@@ -3,7 +3,7 @@
 import itertools
 import unittest
 
-from helper import read_answer, read_answers
+from helper import numbers, read_answer, read_answers
 
 GAPS = " \t\n\r"
 EVERY_BYTE = [chr(byte) for byte in range(256)]
@@ -19,10 +19,6 @@ class Cases(unittest.TestCase):
 
     def all_as_told(self, texts):
         self.each([(text, 0) for text in texts])
-
-
-def numbers(first, last):
-    return " ".join(str(number) for number in range(first, last + 1))
 
 
 class AsTold(Cases):

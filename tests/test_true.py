@@ -4,49 +4,12 @@ import itertools
 import random
 import unittest
 
-from helper import BEGIN, TRUE, ask, read, truth
-
-
-def text_of(blocks, clauses):
-    words = ["p", "cnf", sum(len(block) for kind, block in blocks), len(clauses)]
-    for kind, block in blocks:
-        words.extend([kind, *block, 0])
-    for clause in clauses:
-        words.extend([*clause, 0])
-    return " ".join(str(word) for word in words)
-
-
-def true_of(values, order, clauses):
-    """What the document says, word by word: values are those of the first variables in order."""
-    if len(values) == len(order):
-        value_of = {variable: value for (kind, variable), value in zip(order, values)}
-        return all(any(value_of[abs(literal)] == (literal > 0) for literal in clause) for clause in clauses)
-    further = [true_of(values + [value], order, clauses) for value in (0, 1)]
-    return any(further) if order[len(values)][0] == "e" else all(further)
+from helper import (BEGIN, BLOCKS_OF_TWO, TRUE, ask, clauses_of_two, numbers, order_of, read, some_blocks, some_clauses,
+                    text_of, true_of, truth)
 
 
 def told_truth(blocks, clauses):
-    order = [(kind, variable) for kind, block in blocks for variable in block]
-    return 1 if true_of([], order, clauses) else 0
-
-
-def some_blocks(dice, most):
-    variables = list(range(1, most + 1))
-    dice.shuffle(variables)
-    blocks = []
-    while variables:
-        size = dice.randint(1, min(3, len(variables)))
-        blocks.append((dice.choice("ea"), variables[:size]))
-        variables = variables[size:]
-    return blocks
-
-
-def some_clauses(dice, most, how_many, longest):
-    clauses = []
-    for k in range(how_many):
-        variables = dice.sample(range(1, most + 1), dice.randint(1, min(longest, most)))
-        clauses.append([dice.choice((1, -1)) * variable for variable in variables])
-    return clauses
+    return 1 if true_of([], order_of(blocks), clauses) else 0
 
 
 class Truth(unittest.TestCase):
@@ -61,12 +24,12 @@ class Truth(unittest.TestCase):
             self.assertEqual(truth(f"p cnf 1 {how_many} {kind} 1 0 {literals}"), expected)
 
     def test_no_clauses(self):
-        every = " ".join(str(k) for k in range(1, 21))
+        every = numbers(1, 20)
         for blocks in ["1 0 e 1 0", "1 0 a 1 0", "2 0 a 2 0 e 1 0", f"20 0 e {every} 0", f"20 0 a {every} 0"]:
             self.assertEqual(truth("p cnf " + blocks), 1)
 
     def test_a_clause_without_literals(self):
-        every = " ".join(str(k) for k in range(1, 21))
+        every = numbers(1, 20)
         for text in ["1 1 e 1 0 0", "1 1 a 1 0 0", "1 2 e 1 0 1 0 0", "1 2 e 1 0 0 1 0", "2 1 a 2 0 e 1 0 0",
                      f"20 1 e {every} 0 0", f"20 3 e {every} 0 1 0 0 2 0"]:
             self.assertEqual(truth("p cnf " + text), 0)
@@ -98,10 +61,8 @@ class Truth(unittest.TestCase):
         self.assertEqual(truth("p cnf 3 1 a 2 0 a 3 0 e 1 0 2 3 0"), 0)
 
     def test_every_set_of_clauses_of_two_variables(self):
-        literals = [[()] + [(v,), (-v,)] for v in (1, 2)]
-        clauses = [list(one + two) for one in literals[0] for two in literals[1]]
-        for blocks in [[("e", [1, 2])], [("a", [2, 1])], [("e", [1]), ("a", [2])], [("a", [1]), ("e", [2])],
-                       [("e", [2]), ("a", [1])], [("a", [2]), ("e", [1])]]:
+        clauses = clauses_of_two()
+        for blocks in BLOCKS_OF_TWO:
             for kept in itertools.product([False, True], repeat=len(clauses)):
                 chosen = [clause for clause, keep in zip(clauses, kept) if keep]
                 self.assertEqual(truth(text_of(blocks, chosen)), told_truth(blocks, chosen), (blocks, chosen))
